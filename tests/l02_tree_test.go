@@ -691,7 +691,9 @@ func endless(name string, count int) impl.Node {
 	return kids[0]
 }
 
-func TestTreesEndAtWhateverIsGiven(t *testing.T) {
+// hugeTrees are trees that may not be, most of them far too great or without an
+// end.
+func hugeTrees() []impl.Node {
 	deep := elem("p")
 	for range 100000 {
 		deep = elem("p", deep)
@@ -703,12 +705,16 @@ func TestTreesEndAtWhateverIsGiven(t *testing.T) {
 	long := strings.Repeat("a", 1<<20)
 	textWithin := make([]impl.Node, 1)
 	textWithin[0] = impl.Node{Kind: impl.NdText, Kids: textWithin}
-	trees := []impl.Node{
+	return []impl.Node{
 		deep, bush, elem("p", make([]impl.Node, 100000)...), elem(long), elem("p", text(long)), withAttrs(elem("p"), "a", long),
 		withAttrs(elem("p"), long, ""), {Name: []byte("p"), Attrs: make([]impl.Attr, 100000)}, endless("p", 1), endless("p", 200),
 		endless("br", 1), endless("", 3), elem("p", textWithin...), textWithin[0], elem("p", endless("p", 2), elem("q")),
 		{Kind: math.MinInt}, {Kind: math.MaxInt, Kids: textWithin},
 	}
+}
+
+func TestTreesEndAtWhateverIsGiven(t *testing.T) {
+	trees := hugeTrees()
 	for i, a := range trees {
 		if impl.NodeOk(a) {
 			t.Fatalf("tree %d may not be", i)
@@ -720,7 +726,7 @@ func TestTreesEndAtWhateverIsGiven(t *testing.T) {
 			}
 		}
 	}
-	if impl.NameOk([]byte(long)) {
+	if impl.NameOk(bytes.Repeat([]byte("a"), 1<<20)) {
 		t.Fatal("a long name")
 	}
 }
