@@ -1148,17 +1148,22 @@ func TestOpsDoNotReadBehindTheLength(t *testing.T) {
 	}
 }
 
+// withEmptyLists has an empty list wherever there is nil.
+func withEmptyLists(o impl.Op) impl.Op {
+	for _, list := range []*[]byte{&o.Name, &o.Text} {
+		if len(*list) == 0 {
+			*list = []byte{}
+		}
+	}
+	if len(o.Key) == 0 {
+		o.Key = []int{}
+	}
+	return o
+}
+
 func TestOpsOfEmptyLists(t *testing.T) {
 	for _, good := range goodOps() {
-		o := good
-		for _, list := range []*[]byte{&o.Name, &o.Text} {
-			if len(*list) == 0 {
-				*list = []byte{}
-			}
-		}
-		if len(o.Key) == 0 {
-			o.Key = []int{}
-		}
+		o := withEmptyLists(good)
 		checkOp(t, "empty lists in place of nil", o, true)
 		b, _ := impl.OpBytes(o)
 		want, _ := impl.OpBytes(good)
